@@ -23,6 +23,12 @@ type values [2]int
 // A stateSet has a bit for each of its states.
 type stateSet int
 
+// allStates is the set of all states.
+const allStates stateSet = 1<<MaxStates - 1
+
+// isState reports whether a number is a state.
+func isState(state int) bool { return 0 <= state && state < MaxStates }
+
 // valuesIn returns the values in a state that there is.
 func valuesIn(state int) values {
 	return values{state / valuesOfVariable, state % valuesOfVariable}
@@ -128,7 +134,7 @@ func StateOf(x int, y int) (int, bool) { return stateWith(values{x, y}) }
 
 // ValuesOf returns the values of a state.
 func ValuesOf(state int) (int, int, bool) {
-	if state < 0 || state >= MaxStates {
+	if !isState(state) {
 		return 0, 0, false
 	}
 	v := valuesIn(state)
