@@ -570,6 +570,26 @@ func TestP5TextsOfNoTriple(t *testing.T) {
 	}
 }
 
+// checkChangedTexts checks a text, and what comes of it by a change in one place:
+// a byte or a word more, another byte, and some bytes less.
+func checkChangedTexts(check func(text string), text string, words ...string) {
+	check(text)
+	for i := range len(text) + 1 {
+		for c := range 256 {
+			check(text[:i] + string([]byte{byte(c)}) + text[i:])
+			if i < len(text) {
+				check(text[:i] + string([]byte{byte(c)}) + text[i+1:])
+			}
+		}
+		for _, word := range words {
+			check(text[:i] + word + text[i:])
+		}
+		for j := i; j <= len(text); j++ {
+			check(text[:i] + text[j:])
+		}
+	}
+}
+
 // TestP5ChangedTexts changes texts of triples in one place, in each of some
 // ways. What comes out is the text of a triple, or must be refused.
 func TestP5ChangedTexts(t *testing.T) {
@@ -585,21 +605,7 @@ func TestP5ChangedTexts(t *testing.T) {
 		}
 	}
 	for _, text := range []string{"00,10,20 x+ ok 10", "- x? ok -", "01,12 (x+;([x=0];!)) error 00", "22 {(x+|([x=2];!))} error -", "- {!} error 11,12", "00 . ok 00,01,02,10,11,12,20,21,22"} {
-		check(text)
-		for i := range len(text) + 1 {
-			for c := range 256 {
-				check(text[:i] + string([]byte{byte(c)}) + text[i:])
-				if i < len(text) {
-					check(text[:i] + string([]byte{byte(c)}) + text[i+1:])
-				}
-			}
-			for _, word := range []string{"  ", " -", "- ", " ok", "ok ", " error ", ",22", "00,", " 00", "x+ ", "{.}", "(.;"} {
-				check(text[:i] + word + text[i:])
-			}
-			for j := i; j <= len(text); j++ {
-				check(text[:i] + text[j:])
-			}
-		}
+		checkChangedTexts(check, text, "  ", " -", "- ", " ok", "ok ", " error ", ",22", "00,", " 00", "x+ ", "{.}", "(.;")
 	}
 }
 
