@@ -104,8 +104,13 @@ func steps(c config) []config {
 // resultsBySteps returns the sets of states with ok and with error that all
 // runs of a program from a state have, found one step at a time.
 func resultsBySteps(p string, state int) [2]int {
+	return resultsFollowing(config{stateTexts[state], p}, steps)
+}
+
+// resultsFollowing returns the sets of states with ok and with error in which all
+// runs end that follow steps from a place.
+func resultsFollowing(first config, stepsFrom func(config) []config) [2]int {
 	var results [2]int
-	first := config{stateTexts[state], p}
 	seen := map[config]bool{first: true}
 	for work := []config{first}; len(work) > 0; {
 		c := work[len(work)-1]
@@ -116,7 +121,7 @@ func resultsBySteps(p string, state int) [2]int {
 		case c.todo[0] == '!':
 			results[1] |= setOfText(c.state)
 		default:
-			for _, next := range steps(c) {
+			for _, next := range stepsFrom(c) {
 				if !seen[next] {
 					seen[next] = true
 					work = append(work, next)
